@@ -1,0 +1,1 @@
+"""Letters forgotten: what a claim still says when some of its letters are forgotten."""
