@@ -2,13 +2,20 @@
 
 from lettersgone.worlds import always
 from lettersgone.worlds import claim_count
+from lettersgone.worlds import denied
 from lettersgone.worlds import follows
 from lettersgone.worlds import forgotten
+from lettersgone.worlds import forgotten_together
+from lettersgone.worlds import is_enough
 from lettersgone.worlds import kept
+from lettersgone.worlds import least_sets
 from lettersgone.worlds import letters_needed
+from lettersgone.worlds import lost_worlds
+from lettersgone.worlds import settled
 from lettersgone.worlds import told_without
 from lettersgone.worlds import under
 from lettersgone.worlds import world_count
+from lettersgone.worlds import worlds_of
 
 MOST_LETTERS = 4
 MOST_CLAIMS = 4
@@ -17,6 +24,7 @@ NO_SUCH_CLAIM = -2
 NO_BEGIN = -11
 NOT_RIGHT = -22
 TOO_MANY = -28
+NOT_FOLLOWING = -33
 
 BEGIN = 0
 
@@ -95,9 +103,67 @@ def answer_more(here, given):
     return one_or_zero(follows(first, second))
 
 
+def answer_lost(here, given):
+    return [lost_worlds(here.m, here.claims[given[0]], given[1])]
+
+
+def answer_settles(here, given):
+    claim = here.claims[given[0]]
+    return [here.m] + [settled(here.m, claim, letter) for letter in range(here.m)]
+
+
+def answer_follows(here, given):
+    return one_or_zero(follows(here.claims[given[0]], here.claims[given[1]]))
+
+
+def answer_enough(here, given):
+    return one_or_zero(is_enough(here.m, here.claims[given[0]], here.claims[given[1]], given[2]))
+
+
+def answer_least(here, given):
+    first = here.claims[given[0]]
+    second = here.claims[given[1]]
+    if not follows(first, second):
+        return [NOT_FOLLOWING]
+    sets = least_sets(here.m, first, second)
+    return [len(sets)] + sets
+
+
+def answer_together(here, given):
+    return one_or_zero(forgotten_together(here.m, here.claims[given[0]], here.claims[given[1]], given[2]))
+
+
+def answer_both(here, given):
+    return [here.claims[given[0]] & here.claims[given[1]]]
+
+
+def answer_either(here, given):
+    return [here.claims[given[0]] | here.claims[given[1]]]
+
+
+def answer_not(here, given):
+    return [denied(here.m, here.claims[given[0]])]
+
+
+def answer_worlds(here, given):
+    so_in = worlds_of(here.m, here.claims[given[0]])
+    return [len(so_in)] + so_in
+
+
+def answer_look(here, given):
+    return [here.claims[given[0]]]
+
+
+def answer_state(here, given):
+    return [here.m, len(here.claims)]
+
+
 # Both tables stand in the order of the calls' numbers. A form has a letter for each argument:
 # m how many letters, i a claim here, p a claim told, s a set of letters.
-FORMS = ("m", "p", "ip", "i", "is", "is", "is", "i", "is", "is", "iis", "iis")
+FORMS = (
+    "m", "p", "ip", "i", "is", "is", "is", "i", "is", "is", "iis", "iis",
+    "is", "i", "ii", "iis", "ii", "iis", "ii", "ii", "i", "i", "i", "",
+)
 CALLS = (
     answer_begin,
     answer_put,
@@ -111,6 +177,18 @@ CALLS = (
     answer_says,
     answer_alike,
     answer_more,
+    answer_lost,
+    answer_settles,
+    answer_follows,
+    answer_enough,
+    answer_least,
+    answer_together,
+    answer_both,
+    answer_either,
+    answer_not,
+    answer_worlds,
+    answer_look,
+    answer_state,
 )
 
 

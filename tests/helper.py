@@ -9,7 +9,22 @@ from itertools import product
 from lettersgone.claims import answers
 
 BEGIN, PUT, SET, DROP, FORGET, KEEP, UNDER, LETTERS, WITHOUT, SAYS, ALIKE, MORE = range(12)
+LOST, SETTLES, FOLLOWS, ENOUGH, LEAST, TOGETHER, BOTH, EITHER, NOT, WORLDS, LOOK, STATE = range(12, 24)
 LARGEST = 4294967295
+
+# The calls that change nothing, by what they are given.
+OF_ONE = (LETTERS, SETTLES, NOT, WORLDS, LOOK)
+OF_ONE_AND_LETTERS = (FORGET, KEEP, UNDER, WITHOUT, SAYS, LOST)
+OF_TWO = (FOLLOWS, LEAST, BOTH, EITHER)
+OF_TWO_AND_LETTERS = (ALIKE, MORE, ENOUGH, TOGETHER)
+
+# The letters themselves as claims: by how many letters there are, then by letter.
+LETTER = {1: (2,), 2: (10, 12), 3: (170, 204, 240), 4: (43690, 52428, 61680, 65280)}
+# Of two letters, the second follows by the first.
+ONE_BY_OTHER = 13
+# Most of three letters; of four, the first two or the last two.
+MOST = 232
+PAIRS = 63624
 
 
 def flat(calls):
@@ -50,6 +65,10 @@ def about(m, claims, *calls):
 
 def one(m, claims, *call):
     return about(m, claims, call)[0]
+
+
+def never_and_always(m):
+    return (0, 2 ** 2 ** m - 1)
 
 
 def world_number(world):
@@ -101,8 +120,64 @@ def follows_by_words(m, first, second):
     return worlds_in(m, first) <= worlds_in(m, second)
 
 
+def worlds_by_words(m, claim):
+    return sorted(world_number(world) for world in worlds_in(m, claim))
+
+
+def lost_by_words(m, claim, s):
+    return len(worlds_in(m, forgotten_by_words(m, claim, s)) - worlds_in(m, claim))
+
+
+def settles_by_words(m, claim):
+    told = []
+    for letter in range(m):
+        ways = {world[letter] for world in worlds_in(m, claim)}
+        told.append(2 if len(ways) == 2 else 0 if ways == {False} else 1)
+    return told
+
+
+def enough_by_words(m, first, second, s):
+    return follows_by_words(m, kept_by_words(m, first, s), second)
+
+
+def least_by_words(m, first, second):
+    enough = [set(letters_in(m, s)) for s in range(2 ** m) if enough_by_words(m, first, second, s)]
+    least = [letters for letters in enough if not any(letters - {letter} in enough for letter in letters)]
+    return sorted(sum(2 ** letter for letter in letters) for letters in least)
+
+
+def both_by_words(m, first, second):
+    return claim_number(worlds_in(m, first) & worlds_in(m, second))
+
+
+def either_by_words(m, first, second):
+    return claim_number(worlds_in(m, first) | worlds_in(m, second))
+
+
+def not_by_words(m, claim):
+    return claim_number(all_worlds(m) - worlds_in(m, claim))
+
+
+def together_by_words(m, first, second, s):
+    at_once = forgotten_by_words(m, both_by_words(m, first, second), s)
+    return at_once == both_by_words(m, forgotten_by_words(m, first, s), forgotten_by_words(m, second, s))
+
+
 def some_claims(m):
     """All claims with up to three letters; with four a spread of them, and the ends."""
     if m < 4:
         return list(range(2 ** 2 ** m))
     return [0, 1, 32768, 65534, 65535, 43690, 52428, 61680, 65280] + list(range(7, 65536, 331))
+
+
+def some_pairs(m):
+    """All pairs with one letter or two; with more a spread, each beside others it does and doesn't follow of."""
+    claims = some_claims(m)
+    if m < 3:
+        return [(first, second) for first in claims for second in claims]
+    spread = claims[::5] + claims[-1:]
+    pairs = []
+    for k, claim in enumerate(spread):
+        other = spread[(k * 7 + 3) % len(spread)]
+        pairs += [(claim, other), (claim, claim | other), (claim | other, claim), (claim & other, claim)]
+    return pairs

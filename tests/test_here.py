@@ -1,14 +1,14 @@
-"""begin, put, set and drop: what is here."""
+"""begin, put, set and drop, look and state: what is here."""
 
 import unittest
 
-from tests.helper import ALIKE, BEGIN, DROP, FORGET, KEEP, LARGEST, LETTERS, MORE, PUT, SAYS, SET, UNDER, WITHOUT
+from tests.helper import BEGIN, DROP, LARGEST, LOOK, OF_ONE, OF_ONE_AND_LETTERS, OF_TWO, OF_TWO_AND_LETTERS
+from tests.helper import PUT, SET, STATE
 from tests.helper import about, ask
 
 
 def look(i):
-    # Nothing forgotten, what is left is the claim itself.
-    return (FORGET, i, 0)
+    return (LOOK, i)
 
 
 class Begin(unittest.TestCase):
@@ -48,14 +48,16 @@ class Begin(unittest.TestCase):
 
 class BeforeBegin(unittest.TestCase):
     def test_every_other_call_is_refused(self):
-        others = [(PUT, 0), (SET, 0, 0), (DROP, 0), (FORGET, 0, 0), (KEEP, 0, 0), (UNDER, 0, 0), (LETTERS, 0),
-                  (WITHOUT, 0, 0), (SAYS, 0, 0), (ALIKE, 0, 0, 0), (MORE, 0, 0, 0)]
+        others = [(PUT, 0), (SET, 0, 0), (DROP, 0), (STATE,)]
+        others += [(call, 0) for call in OF_ONE] + [(call, 0, 0) for call in OF_ONE_AND_LETTERS + OF_TWO]
+        others += [(call, 0, 0, 0) for call in OF_TWO_AND_LETTERS]
+        self.assertEqual(sorted(call[0] for call in others), list(range(1, 24)))
         for call in others:
             self.assertEqual(ask(call), [[-11]])
             beyond = (call[0],) + (LARGEST,) * (len(call) - 1)
             self.assertEqual(ask(beyond), [[-11]])
             self.assertEqual(ask((BEGIN, 5), call), [[-22], [-11]])
-        self.assertEqual(ask(*others, (BEGIN, 1), (PUT, 1)), [[-11]] * 11 + [[0], [0]])
+        self.assertEqual(ask(*others, (BEGIN, 1), (STATE,), (PUT, 1)), [[-11]] * 23 + [[0], [1, 0], [0]])
 
 
 class Put(unittest.TestCase):
@@ -148,6 +150,46 @@ class Drop(unittest.TestCase):
                 about(m, [1, 2], (DROP, 2), (DROP, LARGEST), look(0), look(1), (PUT, 0)),
                 [[-2], [-2], [1], [2], [2]],
             )
+
+
+class Look(unittest.TestCase):
+    def test_each_claim_by_its_number(self):
+        for m in (1, 2, 3, 4):
+            always = 2 ** 2 ** m - 1
+            self.assertEqual(
+                about(m, [1, always, 0, always - 1], look(0), look(1), look(2), look(3), look(0)),
+                [[1], [always], [0], [always - 1], [1]],
+            )
+
+    def test_every_claim(self):
+        for m in (1, 2, 3):
+            for claim in range(2 ** 2 ** m):
+                self.assertEqual(about(m, [claim], look(0)), [[claim]])
+        for claim in range(0, 65536, 257):
+            self.assertEqual(about(4, [claim], look(0)), [[claim]])
+
+
+class State(unittest.TestCase):
+    def test_how_many_letters_then_how_many_claims(self):
+        for m in (1, 2, 3, 4):
+            for many in range(5):
+                self.assertEqual(about(m, [1] * many, (STATE,), (STATE,)), [[m, many], [m, many]])
+
+    def test_what_changes_it(self):
+        self.assertEqual(
+            ask((BEGIN, 3), (STATE,), (PUT, 7), (STATE,), (PUT, 7), (STATE,), (SET, 0, 9), (STATE,), (DROP, 0),
+                (STATE,), (BEGIN, 4), (STATE,), (PUT, 65535), (STATE,), (BEGIN, 1), (STATE,)),
+            [[0], [3, 0], [0], [3, 1], [1], [3, 2], [7], [3, 2], [1], [3, 1], [0], [4, 0], [0], [4, 1], [0], [1, 0]],
+        )
+
+    def test_what_is_refused_does_not_change_it(self):
+        for m in (1, 2, 3, 4):
+            refused = [(BEGIN, 0), (BEGIN, 5), (BEGIN, LARGEST), (PUT, 2 ** 2 ** m), (PUT, LARGEST), (SET, 4, 0),
+                       (SET, 0, 2 ** 2 ** m), (DROP, 4), (DROP, LARGEST), (PUT, 0)]
+            for call in refused:
+                told = about(m, [1, 2, 3, 0], call, (STATE,), look(0), look(1), look(2), look(3))
+                self.assertLess(told[0][0], 0)
+                self.assertEqual(told[1:], [[m, 4], [1], [2], [3], [0]])
 
 
 if __name__ == "__main__":

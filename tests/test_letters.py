@@ -2,19 +2,9 @@
 
 import unittest
 
-from tests.helper import ALIKE, FORGET, KEEP, LETTERS, MORE, SAYS, UNDER, WITHOUT
-from tests.helper import about, follows_by_words, forgotten_by_words, kept_by_words, letters_by_words, one
-from tests.helper import some_claims, under_by_words
-
-# The letters themselves as claims: by how many letters there are, then by letter.
-LETTER = {1: (2,), 2: (10, 12), 3: (170, 204, 240), 4: (43690, 52428, 61680, 65280)}
-# Most of three letters; of four, the first two or the last two.
-MOST = 232
-PAIRS = 63624
-
-
-def never_and_always(m):
-    return (0, 2 ** 2 ** m - 1)
+from tests.helper import ALIKE, FORGET, KEEP, LETTER, LETTERS, MORE, MOST, ONE_BY_OTHER, PAIRS, SAYS, UNDER, WITHOUT
+from tests.helper import about, follows_by_words, forgotten_by_words, kept_by_words, letters_by_words, never_and_always
+from tests.helper import one, some_claims, some_pairs, under_by_words
 
 
 class Forget(unittest.TestCase):
@@ -147,7 +137,7 @@ class Says(unittest.TestCase):
     def test_one_letter_follows_by_the_other(self):
         # It says nothing of either alone, but something of both.
         asked = [(SAYS, 0, s) for s in range(4)]
-        self.assertEqual(about(2, [13], *asked), [[0], [0], [0], [1]])
+        self.assertEqual(about(2, [ONE_BY_OTHER], *asked), [[0], [0], [0], [1]])
 
     def test_worked_by_hand(self):
         self.assertEqual(about(1, [2], (SAYS, 0, 0), (SAYS, 0, 1)), [[0], [1]])
@@ -169,19 +159,6 @@ class Says(unittest.TestCase):
                 asked = [(SAYS, 0, s) for s in range(2 ** m)]
                 expected = [[0 if kept_by_words(m, claim, s) == always else 1] for s in range(2 ** m)]
                 self.assertEqual(about(m, [claim], *asked), expected, (m, claim))
-
-
-def some_pairs(m):
-    """All pairs with one letter or two; with more a spread, each beside others it does and doesn't follow of."""
-    claims = some_claims(m)
-    if m < 3:
-        return [(first, second) for first in claims for second in claims]
-    spread = claims[::5] + claims[-1:]
-    pairs = []
-    for k, claim in enumerate(spread):
-        other = spread[(k * 7 + 3) % len(spread)]
-        pairs += [(claim, other), (claim, claim | other), (claim | other, claim), (claim & other, claim)]
-    return pairs
 
 
 class AlikeAndMore(unittest.TestCase):

@@ -2,48 +2,78 @@
 
 import unittest
 
-from tests.helper import ALIKE, FORGET, KEEP, LARGEST, LETTERS, MORE, SAYS, UNDER, WITHOUT
+from tests.helper import LARGEST, LEAST, LOOK, OF_ONE, OF_ONE_AND_LETTERS, OF_TWO, OF_TWO_AND_LETTERS, STATE
 from tests.helper import about, one
-
-OF_ONE = (FORGET, KEEP, UNDER, WITHOUT, SAYS)
-OF_TWO = (ALIKE, MORE)
 
 
 class OfOneClaim(unittest.TestCase):
     def test_no_such_claim(self):
         for m in (1, 2, 3, 4):
             for call in OF_ONE:
+                self.assertEqual(one(m, [], call, 0), [-2])
+                self.assertEqual(about(m, [1], (call, 1), (call, LARGEST)), [[-2], [-2]])
+
+    def test_the_last_claim_is_one(self):
+        for m in (1, 2, 3, 4):
+            for call in OF_ONE:
+                told = about(m, [0, 0, 0, 1], (call, 3), (call, 4))
+                self.assertGreaterEqual(told[0][0], 0)
+                self.assertEqual(told[1], [-2])
+
+
+class OfOneClaimAndLetters(unittest.TestCase):
+    def test_no_such_claim(self):
+        for m in (1, 2, 3, 4):
+            for call in OF_ONE_AND_LETTERS:
                 self.assertEqual(one(m, [], call, 0, 0), [-2])
                 self.assertEqual(about(m, [1], (call, 1, 0), (call, LARGEST, 0)), [[-2], [-2]])
 
     def test_no_set_of_letters(self):
         for m in (1, 2, 3, 4):
-            for call in OF_ONE:
+            for call in OF_ONE_AND_LETTERS:
                 self.assertEqual(about(m, [1], (call, 0, 2 ** m), (call, 0, LARGEST)), [[-22], [-22]])
 
     def test_the_largest_set_is_one(self):
         for m in (1, 2, 3, 4):
-            for call in OF_ONE:
+            for call in OF_ONE_AND_LETTERS:
                 self.assertGreaterEqual(one(m, [1], call, 0, 2 ** m - 1)[0], 0)
 
     def test_no_such_claim_comes_first(self):
         for m in (1, 2, 3, 4):
-            for call in OF_ONE:
+            for call in OF_ONE_AND_LETTERS:
                 self.assertEqual(about(m, [1], (call, 1, 2 ** m), (call, LARGEST, LARGEST)), [[-2], [-2]])
-
-    def test_letters(self):
-        for m in (1, 2, 3, 4):
-            self.assertEqual(one(m, [], LETTERS, 0), [-2])
-            self.assertEqual(
-                about(m, [0, 0, 0, 0], (LETTERS, 3), (LETTERS, 4), (LETTERS, LARGEST)),
-                [[0], [-2], [-2]],
-            )
 
 
 class OfTwoClaims(unittest.TestCase):
     def test_no_such_claim(self):
         for m in (1, 2, 3, 4):
             for call in OF_TWO:
+                self.assertEqual(one(m, [], call, 0, 0), [-2])
+                self.assertEqual(
+                    about(m, [1], (call, 1, 0), (call, 0, 1), (call, 1, 1), (call, LARGEST, 0), (call, 0, LARGEST),
+                          (call, LARGEST, LARGEST)),
+                    [[-2]] * 6,
+                )
+
+    def test_the_last_claim_is_one(self):
+        for m in (1, 2, 3, 4):
+            for call in OF_TWO:
+                told = about(m, [0, 0, 0, 0], (call, 3, 0), (call, 0, 3), (call, 4, 3), (call, 3, 4))
+                self.assertGreaterEqual(min(told[0][0], told[1][0]), 0)
+                self.assertEqual(told[2:], [[-2], [-2]])
+
+    def test_it_does_not_follow(self):
+        for m in (1, 2, 3, 4):
+            self.assertEqual(
+                about(m, [1, 2, 3], (LEAST, 0, 1), (LEAST, 1, 0), (LEAST, 2, 0), (LEAST, 2, 3), (LEAST, 3, 2)),
+                [[-33], [-33], [-33], [-2], [-2]],
+            )
+
+
+class OfTwoClaimsAndLetters(unittest.TestCase):
+    def test_no_such_claim(self):
+        for m in (1, 2, 3, 4):
+            for call in OF_TWO_AND_LETTERS:
                 self.assertEqual(one(m, [], call, 0, 0, 0), [-2])
                 self.assertEqual(
                     about(m, [1], (call, 1, 0, 0), (call, 0, 1, 0), (call, 1, 1, 0), (call, LARGEST, 0, 0),
@@ -53,38 +83,43 @@ class OfTwoClaims(unittest.TestCase):
 
     def test_no_set_of_letters(self):
         for m in (1, 2, 3, 4):
-            for call in OF_TWO:
-                self.assertEqual(
-                    about(m, [1, 2], (call, 0, 1, 2 ** m - 1), (call, 0, 1, 2 ** m), (call, 1, 0, LARGEST))[1:],
-                    [[-22], [-22]],
-                )
+            for call in OF_TWO_AND_LETTERS:
+                told = about(m, [1, 2], (call, 0, 1, 2 ** m - 1), (call, 0, 1, 2 ** m), (call, 1, 0, LARGEST))
+                self.assertIn(told[0], ([0], [1]))
+                self.assertEqual(told[1:], [[-22], [-22]])
 
     def test_no_such_claim_comes_first(self):
         for m in (1, 2, 3, 4):
-            for call in OF_TWO:
+            for call in OF_TWO_AND_LETTERS:
                 self.assertEqual(
-                    about(m, [1], (call, 1, 0, 2 ** m), (call, 0, 1, 2 ** m), (call, 0, LARGEST, LARGEST)),
-                    [[-2]] * 3,
+                    about(m, [1], (call, 1, 0, 2 ** m), (call, 0, 1, 2 ** m), (call, 0, LARGEST, LARGEST),
+                          (call, LARGEST, 0, LARGEST)),
+                    [[-2]] * 4,
                 )
 
 
 class NothingChanges(unittest.TestCase):
+    SEEN = [(LOOK, 0), (LOOK, 1), (LOOK, 2), (STATE,)]
+
     def test_asking_leaves_the_claims(self):
-        asked = [(call, 0, 1) for call in OF_ONE] + [(call, 0, 1, 1) for call in OF_TWO] + [(LETTERS, 0)]
-        seen = [(FORGET, 0, 0), (FORGET, 1, 0), (FORGET, 2, 0)]
+        asked = [(call, 0) for call in OF_ONE] + [(call, 0, 1) for call in OF_ONE_AND_LETTERS + OF_TWO]
+        asked += [(call, 0, 1, 1) for call in OF_TWO_AND_LETTERS] + [(STATE,)]
         for m in (1, 2, 3, 4):
             for call in asked:
-                self.assertEqual(about(m, [2, 1], call, *seen)[1:], [[2], [1], [-2]])
+                told = about(m, [2, 3], call, *self.SEEN)
+                self.assertGreaterEqual(told[0][0], 0)
+                self.assertEqual(told[1:], [[2], [3], [-2], [m, 2]])
 
     def test_refused_asking_leaves_the_claims(self):
-        refused = [(call, 0, 16) for call in OF_ONE] + [(call, 2, 0) for call in OF_ONE]
-        refused += [(call, 0, 1, 16) for call in OF_TWO] + [(call, 0, 2, 0) for call in OF_TWO] + [(LETTERS, 2)]
-        seen = [(FORGET, 0, 0), (FORGET, 1, 0), (FORGET, 2, 0)]
+        refused = [(call, 2) for call in OF_ONE]
+        refused += [(call, 0, 16) for call in OF_ONE_AND_LETTERS] + [(call, 2, 0) for call in OF_ONE_AND_LETTERS]
+        refused += [(call, 0, 2) for call in OF_TWO] + [(call, 2, 0) for call in OF_TWO] + [(LEAST, 1, 0)]
+        refused += [(call, 0, 1, 16) for call in OF_TWO_AND_LETTERS] + [(call, 0, 2, 0) for call in OF_TWO_AND_LETTERS]
         for m in (1, 2, 3, 4):
             for call in refused:
-                told = about(m, [2, 1], call, *seen)
+                told = about(m, [2, 3], call, *self.SEEN)
                 self.assertLess(told[0][0], 0)
-                self.assertEqual(told[1:], [[2], [1], [-2]])
+                self.assertEqual(told[1:], [[2], [3], [-2], [m, 2]])
 
 
 if __name__ == "__main__":
